@@ -1,0 +1,1 @@
+"""Taflhall: looking ahead. The interface is taflahead.looking.answers."""
